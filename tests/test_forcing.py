@@ -3,43 +3,17 @@
 from random import Random
 
 from lampwish.forcing import broken, first_free, forced
-from lampwish.wishes import still_open
-from tests.pure import PureCase
+from tests.helper import PureCase, drawn_halls, plainly_broken, plainly_forced
 
 
-def plainly_broken(wishes, letters):
-    return [number for number, wish in enumerate(wishes) if all(-letter in letters for letter in wish)
-            and not any(letter in letters for letter in wish)]
-
-
-def plainly_forced(wishes, trail):
-    """Point 7 word by word, each time from the beginning."""
-    trail = list(trail)
-    while True:
-        letters = [letter for letter, why in trail]
-        if plainly_broken(wishes, letters):
-            return trail
-        states = [still_open(wish, letters) for wish in wishes]
-        single = [number for number, state in enumerate(states) if state is not None and len(state) == 1]
-        if not single:
-            return trail
-        trail.append((states[single[0]][0], single[0]))
-
-
-def drawn_hall(source):
-    lamps = source.randrange(1, 6)
-    letters = [letter for lamp in range(1, lamps + 1) for letter in (lamp, -lamp)]
-    least = source.choice((0, 1, 1, 1, 2))
-    wishes = [[source.choice(letters) for place in range(source.randrange(least, 4))]
-              for number in range(source.randrange(9))]
-    guessed = source.sample(range(1, lamps + 1), source.randrange(lamps + 1))
-    trail = [(source.choice((lamp, -lamp)), None) for lamp in guessed]
-    return lamps, wishes, trail
-
-
-def drawn_halls():
+def drawn_trails():
+    """Halls, each with a trail of guesses."""
     source = Random(7)
-    return [drawn_hall(source) for turn in range(1500)]
+    drawn = []
+    for count, wishes in drawn_halls(7, 1500, 5):
+        lamps = source.sample(range(1, count + 1), source.randrange(count + 1))
+        drawn.append((count, wishes, [(source.choice((lamp, -lamp)), None) for lamp in lamps]))
+    return drawn
 
 
 class Broken(PureCase):
@@ -86,8 +60,8 @@ class Broken(PureCase):
         self.assertEqual(self.answer(broken, wishes, trail), 1999)
 
     def test_drawn_halls(self):
-        for lamps, wishes, trail in drawn_halls():
-            expected = plainly_broken(wishes, [letter for letter, why in trail])
+        for count, wishes, trail in drawn_trails():
+            expected = plainly_broken(wishes, trail)
             self.assertEqual(self.answer(broken, wishes, trail), expected[0] if expected else None)
 
 
@@ -164,11 +138,11 @@ class Forced(PureCase):
         self.assertEqual(self.answer(forced, down, []), [(lamp, 1500 - lamp) for lamp in range(1, 1501)])
 
     def test_drawn_halls(self):
-        for lamps, wishes, trail in drawn_halls():
+        for count, wishes, trail in drawn_trails():
             self.assertEqual(self.answer(forced, wishes, trail), plainly_forced(wishes, trail))
 
     def test_going_on_again_adds_nothing(self):
-        for lamps, wishes, trail in drawn_halls():
+        for count, wishes, trail in drawn_trails():
             told = self.answer(forced, wishes, trail)
             self.assertEqual(self.answer(forced, wishes, told), told)
 
@@ -207,6 +181,6 @@ class FirstFree(PureCase):
         self.assertEqual(self.answer(first_free, 10 ** 30, [(10 ** 30, None), (1, None)]), 2)
 
     def test_drawn_halls(self):
-        for lamps, wishes, trail in drawn_halls():
-            free = sorted(set(range(1, lamps + 1)) - {abs(letter) for letter, why in trail})
-            self.assertEqual(self.answer(first_free, lamps, trail), free[0] if free else None)
+        for count, wishes, trail in drawn_trails():
+            free = sorted(set(range(1, count + 1)) - {abs(letter) for letter, why in trail})
+            self.assertEqual(self.answer(first_free, count, trail), free[0] if free else None)

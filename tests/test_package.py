@@ -19,6 +19,22 @@ ARGUMENTS = {
         "forced": ["wishes", "trail"],
         "first_free": ["count", "trail"],
     },
+    "showing": {
+        "shows": ["wishes", "steps"],
+        "trimmed": ["wishes", "steps"],
+    },
+    "solving": {
+        "gone_back": ["wishes", "trail", "number"],
+        "solved": ["count", "wishes"],
+        "all_settings": ["count", "wishes"],
+        "follows": ["count", "wishes", "wish"],
+        "sure": ["count", "wishes"],
+    },
+    "statements": {
+        "true_in": ["statement", "setting"],
+        "sheet_of": ["count", "statement"],
+        "weighed": ["count", "statement"],
+    },
 }
 
 FROM_OUTSIDE = ("open", "input", "print", "eval", "exec", "compile", "globals", "breakpoint", "id", "hash")

@@ -4,13 +4,9 @@ from itertools import product
 
 from lampwish.errors import LampError, NoMerge, NoSetting
 from lampwish.wishes import merged, met, still_open
-from tests.pure import PureCase
+from tests.helper import PureCase, settings
 
 LETTERS = (1, -1, 2, -2)
-
-
-def settings(count):
-    return [list(values) for values in product((True, False), repeat=count)]
 
 
 def small_wishes(longest):
